@@ -1,0 +1,1 @@
+"""Gainroads: streams that grow or shrink on the way."""
