@@ -109,3 +109,39 @@ def some_net(dice, most_places, most_ties, gains):
 def some_stream(dice, net):
     """A stream by the dice: some ties empty, some at their most."""
     return [as_pair(as_fraction(tie[2]) * Fraction(dice.roll(5), 4)) for tie in net[1]]
+
+
+def way_ok(net, thing):
+    return (type(thing) is list and all(type(number) is int and number in range(len(net[1])) for number in thing)
+            and all(thing.count(number) == 1 for number in thing)
+            and all(net[1][thing[at]][1] == net[1][thing[at + 1]][0] for at in range(len(thing) - 1)))
+
+
+def round_ok(net, thing):
+    if not way_ok(net, thing) or len(thing) < 2:
+        return False
+    begins = [net[1][number][0] for number in thing]
+    ends = [net[1][number][1] for number in thing]
+    return ends[-1] == begins[0] and all(ends.count(place) == 1 for place in ends)
+
+
+def ways_of(ties, begins, allowed):
+    """All ways along the allowed ties from these places; the empty one once for each."""
+    def onward(place, way):
+        yield way
+        for number in allowed:
+            if ties[number][0] == place and number not in way:
+                yield from onward(ties[number][1], way + [number])
+    for begin in begins:
+        yield from onward(begin, [])
+
+
+def gain_along(net, way):
+    gain = Fraction(1)
+    for number in way:
+        gain *= as_fraction(net[1][number][3])
+    return gain
+
+
+def open_numbers(net):
+    return [number for number, tie in enumerate(net[1]) if tie[2][0] > 0]
