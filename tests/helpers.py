@@ -1,5 +1,6 @@
 """What several tests need: wrong things, variants of right ones, nets by the dozen."""
 
+import itertools
 import math
 import re
 from fractions import Fraction
@@ -145,3 +146,258 @@ def gain_along(net, way):
 
 def open_numbers(net):
     return [number for number, tie in enumerate(net[1]) if tie[2][0] > 0]
+
+
+# Steps, courses and rings once more, by Fractions and by trying all.
+
+def steps_left(net, stream):
+    """The steps that a stream leaves, rooms and gains as Fractions."""
+    steps = []
+    for number, (begin, end, most, gain, price) in enumerate(net[1]):
+        much, gain = as_fraction(stream[number]), as_fraction(gain)
+        if much < as_fraction(most):
+            steps.append((number, False, begin, end, as_fraction(most) - much, gain))
+        if much > 0:
+            steps.append((number, True, end, begin, much * gain, 1 / gain))
+    return steps
+
+
+def all_courses(steps, place, barred=()):
+    """All courses from a place, each with the place it ends at, that come to none of the barred ones."""
+    def onward(here, course, seen):
+        yield course, here
+        for step in steps:
+            if step[2] == here and step[3] not in seen:
+                yield from onward(step[3], course + [step], seen + [step[3]])
+    yield from onward(place, [], [place] + [other for other in barred if other != place])
+
+
+def all_rings(steps, place):
+    """All rings that begin at a place."""
+    for course, here in all_courses(steps, place):
+        for step in steps:
+            if course and step[2] == here and step[3] == place:
+                yield course + [step]
+
+
+def gain_by(steps):
+    gain = Fraction(1)
+    for step in steps:
+        gain *= step[5]
+    return gain
+
+
+def pairs_of(steps):
+    return [(step[0], step[1]) for step in steps]
+
+
+def all_betterings(net, begin, end, stream):
+    steps = steps_left(net, stream)
+    told = [("way", pairs_of(course)) for course, here in all_courses(steps, begin) if here == end]
+    for place in net[0]:
+        for ring in all_rings(steps, place):
+            if gain_by(ring) > 1:
+                for course, here in all_courses(steps, place, [step[2] for step in ring]):
+                    if here == end:
+                        told.append(("ring", pairs_of(ring), pairs_of(course)))
+    return told
+
+
+def stream_ok(net, thing):
+    return (type(thing) is list and len(thing) == len(net[1]) and all(fraction_ok(much) for much in thing)
+            and all(0 <= as_fraction(much) <= as_fraction(tie[2]) for much, tie in zip(thing, net[1])))
+
+
+def left_over(net, stream, place):
+    """What a stream leaves at a place, as a Fraction."""
+    total = Fraction(0)
+    for (begin, end, most, gain, price), much in zip(net[1], stream):
+        total += as_fraction(much) * as_fraction(gain) * (end == place) - as_fraction(much) * (begin == place)
+    return total
+
+
+def keeps_ok(net, begin, end, thing):
+    return stream_ok(net, thing) and all(
+        left_over(net, thing, place) == 0 for place in net[0] if place not in (begin, end))
+
+
+def worths_ok(net, thing):
+    return type(thing) is list and len(thing) == len(net[0]) and all(fraction_ok(worth) for worth in thing)
+
+
+def price_along(net, stream):
+    return sum((as_fraction(tie[4]) * as_fraction(much) for tie, much in zip(net[1], stream)), Fraction(0))
+
+
+def any_course(dice, steps, begin, end, barred=()):
+    """A course by the dice from begin to end, None where it runs into places that lead nowhere."""
+    course, here, seen = [], begin, {begin} | set(barred)
+    while here != end:
+        onward = [step for step in steps if step[2] == here and step[3] not in seen]
+        if not onward:
+            return None
+        course.append(dice.one_of(onward))
+        here = course[-1][3]
+        seen.add(here)
+    return course
+
+
+def any_ring(dice, steps):
+    """A ring by the dice, None where it runs into places that lead nowhere."""
+    if not steps:
+        return None
+    course = [dice.one_of(steps)]
+    seen = [course[0][2], course[0][3]]
+    while True:
+        onward = [step for step in steps if step[2] == seen[-1] and step[:2] != (course[-1][0], not course[-1][1])]
+        if not onward:
+            return None
+        course.append(dice.one_of(onward))
+        if course[-1][3] in seen:
+            return course[seen.index(course[-1][3]):]
+        seen.append(course[-1][3])
+
+
+def pushed(net, stream, parts, share):
+    """The stream with a share of what the rooms let along parts, pairs of a list of steps and what begins there."""
+    shares = []
+    for steps, much in parts:
+        for step in steps:
+            shares.append((step, much))
+            much *= step[5]
+    most = min([step[4] / part for step, part in shares], default=Fraction(0)) * share
+    fresh = [as_fraction(much) for much in stream]
+    for step, part in shares:
+        fresh[step[0]] += -most * part * step[5] if step[1] else most * part
+    return [as_pair(much) for much in fresh]
+
+
+def some_keeping(dice, net, begin, end, turns=8):
+    """A stream by the dice that keeps: ways there and back, and rings with what they make sent to an end."""
+    stream = [(0, 1)] * len(net[1])
+    for _ in range(turns):
+        steps = steps_left(net, stream)
+        share = Fraction(1 + dice.roll(4), 4)
+        first, last = dice.one_of([(begin, end), (begin, end), (end, begin)])
+        ring = any_ring(dice, steps) if dice.roll(2) else None
+        if ring is None:
+            course = any_course(dice, steps, first, last)
+            if course:
+                stream = pushed(net, stream, [(course, Fraction(1))], share)
+        elif gain_by(ring) == 1:
+            stream = pushed(net, stream, [(ring, Fraction(1))], share)
+        elif gain_by(ring) > 1:
+            course = any_course(dice, steps, ring[0][2], last, [step[2] for step in ring])
+            if course is not None:
+                stream = pushed(net, stream, [(ring, Fraction(1)), (course, gain_by(ring) - 1)], share)
+    return stream
+
+
+# All corners of what is bounded and tied by rows: whoever is the greatest or least is at one of them.
+
+def solved(rows, sums):
+    """The one solution of rows of Fractions that make these sums, None where there's none or more than one."""
+    many = len(rows[0]) if rows else 0
+    table = [list(row) + [total] for row, total in zip(rows, sums)]
+    for at in range(many):
+        lead = next((row for row in range(at, len(table)) if table[row][at] != 0), None)
+        if lead is None:
+            return None
+        table[at], table[lead] = table[lead], table[at]
+        table[at] = [part / table[at][at] for part in table[at]]
+        for row in range(len(table)):
+            if row != at and table[row][at] != 0:
+                by = table[row][at]
+                table[row] = [part - by * other for part, other in zip(table[row], table[at])]
+    if any(row[-1] != 0 for row in table[many:]):
+        return None
+    return [row[-1] for row in table[:many]]
+
+
+def corners_of(rows, sums, mosts):
+    """All amounts from 0 to their mosts that make the sums, at most as many as there are rows of them not at a bound.
+    """
+    free = [at for at, most in enumerate(mosts) if most > 0]
+    for size in range(min(len(rows), len(free)) + 1):
+        for basic in itertools.combinations(free, size):
+            others = [at for at in free if at not in basic]
+            for full in itertools.product((0, 1), repeat=len(others)):
+                amounts = [Fraction(0)] * len(mosts)
+                for at, whole in zip(others, full):
+                    amounts[at] = mosts[at] * whole
+                rest = [total - sum(part * much for part, much in zip(row, amounts)) for row, total in zip(rows, sums)]
+                if size == 0:
+                    if not any(rest):
+                        yield amounts
+                    continue
+                some = solved([[row[at] for at in basic] for row in rows], rest)
+                if some is not None and all(0 <= much <= mosts[at] for at, much in zip(basic, some)):
+                    for at, much in zip(basic, some):
+                        amounts[at] = much
+                    yield amounts
+
+
+def corner_streams(net, begin, end, many=None):
+    """All corners of the streams that keep, or of those that bring just so many."""
+    inner = [place for place in net[0] if place not in (begin, end)] + ([] if many is None else [end])
+    rows = [[as_fraction(tie[3]) * (tie[1] == place) - (tie[0] == place) for tie in net[1]] for place in inner]
+    sums = [Fraction(0)] * len(inner)
+    if many is not None:
+        sums[-1] = many
+    for amounts in corners_of(rows, sums, [as_fraction(tie[2]) for tie in net[1]]):
+        yield [as_pair(much) for much in amounts]
+
+
+def two_places(dice, net):
+    begin = dice.one_of(net[0])
+    return begin, dice.one_of([place for place in net[0] if place != begin])
+
+
+def great_net(dice, most_gain=60):
+    """A net at the bounds: ten places, 24 ties, numbers as great as they may be."""
+    places = tuple("abcdefghij")
+    ties = []
+    for at in range(24):
+        begin = dice.roll(10)
+        end = (begin + 1 + dice.roll(9)) % 10
+        most = as_pair(Fraction(10 ** 9 - dice.roll(1000), 1000 - dice.roll(100)))
+        gain = as_pair(Fraction(most_gain - dice.roll(most_gain), 60 - dice.roll(20)))
+        price = as_pair(Fraction(10 ** 9 - dice.roll(10 ** 9), 1000 - dice.roll(1000)))
+        ties.append((places[begin], places[end], most, gain, price))
+    return (places, tuple(ties))
+
+
+def lists_in(thing):
+    """All lists in a thing, itself too, each as often as it stands there."""
+    if isinstance(thing, list):
+        yield thing
+    if isinstance(thing, (list, tuple)):
+        for part in thing:
+            yield from lists_in(part)
+
+
+def spoil(thing):
+    """Changes every list in a thing, the innermost first."""
+    for some in reversed(list(lists_in(thing))):
+        some.clear()
+        some.append("spoilt")
+
+
+def check_own(test, ask, *given):
+    """What is told is told again alike, bears no list twice nor a list that was handed in, and may be changed; what
+    is handed in stays as it was, and changing it changes nothing that was told."""
+    before = frozen(given)
+    told = ask(*given)
+    shown = frozen(told)
+    test.assertEqual(frozen(given), before)
+    again = ask(*given)
+    test.assertEqual(frozen(again), shown)
+    lists = [id(some) for thing in (told, again, given) for some in lists_in(thing)]
+    test.assertEqual(len(set(lists)), len(lists))
+    spoil(told)
+    test.assertEqual(frozen(again), shown)
+    test.assertEqual(frozen(given), before)
+    test.assertEqual(frozen(ask(*given)), shown)
+    for thing in given:
+        spoil(thing)
+    test.assertEqual(frozen(again), shown)
