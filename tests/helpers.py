@@ -401,3 +401,192 @@ def check_own(test, ask, *given):
     for thing in given:
         spoil(thing)
     test.assertEqual(frozen(again), shown)
+
+
+# Plans and sendings once more, by Fractions.
+
+def parts_ok(thing, kinds):
+    """Whether a thing is a tuple of parts of which the kinds, one for each, are true."""
+    return type(thing) is tuple and len(thing) == len(kinds) and all(kind(part) for kind, part in zip(kinds, thing))
+
+
+def most_ok(thing):
+    return fraction_ok(thing) and thing[0] >= 0
+
+
+def gain_ok(thing):
+    return fraction_ok(thing) and thing[0] > 0
+
+
+def plan_ok(thing):
+    if type(thing) is not tuple or len(thing) != 6 or not names_ok(thing[0]) or not names_ok(thing[1]):
+        return False
+
+    def place(part):
+        return type(part) is str and part in thing[0]
+
+    def stuff(part):
+        return type(part) is str and part in thing[1]
+
+    forms = ((place, place, most_ok, gain_ok), (place, stuff, stuff, most_ok, gain_ok), (place, stuff, most_ok),
+             (place, stuff, gain_ok))
+    for parts, form in zip(thing[2:], forms):
+        if type(parts) is not tuple or not all(parts_ok(part, form) for part in parts):
+            return False
+    return all(tie[0] != tie[1] for tie in thing[2]) and all(turner[1] != turner[2] for turner in thing[3])
+
+
+def sending_ok(plan, thing):
+    if not parts_ok(thing, [lambda part: type(part) is list] * 3):
+        return False
+    if [len(part) for part in thing] != [len(plan[2]), len(plan[3]), len(plan[4])]:
+        return False
+    for much, tie in zip(thing[0], plan[2]):
+        if type(much) is not list or len(much) != len(plan[1]) or not all(most_ok(part) for part in much):
+            return False
+        if sum(as_fraction(part) for part in much) > as_fraction(tie[2]):
+            return False
+    caps = [turner[3] for turner in plan[3]] + [well[2] for well in plan[4]]
+    return all(most_ok(much) and as_fraction(much) <= as_fraction(cap) for much, cap in zip(thing[1] + thing[2], caps))
+
+
+def counted(plan, sending):
+    """A dict from (place, stuff) to what comes less what goes."""
+    total = {(place, stuff): Fraction(0) for place in plan[0] for stuff in plan[1]}
+    for (begin, end, most, gain), much in zip(plan[2], sending[0]):
+        for stuff, part in zip(plan[1], much):
+            total[begin, stuff] -= as_fraction(part)
+            total[end, stuff] += as_fraction(part) * as_fraction(gain)
+    for (place, stuff, other, most, gain), much in zip(plan[3], sending[1]):
+        total[place, stuff] -= as_fraction(much)
+        total[place, other] += as_fraction(much) * as_fraction(gain)
+    for (place, stuff, most), much in zip(plan[4], sending[2]):
+        total[place, stuff] += as_fraction(much)
+    return total
+
+
+def wished(plan):
+    """A dict from (place, stuff) to all that is wished there."""
+    total = {(place, stuff): Fraction(0) for place in plan[0] for stuff in plan[1]}
+    for place, stuff, amount in plan[5]:
+        total[place, stuff] += as_fraction(amount)
+    return total
+
+
+def counts_ok(plan, share, thing):
+    if not sending_ok(plan, thing):
+        return False
+    wishes = wished(plan)
+    return all(much == as_fraction(share) * wishes[spot] for spot, much in counted(plan, thing).items())
+
+
+def plan_noughts(plan):
+    return ([[(0, 1)] * len(plan[1]) for _ in plan[2]], [(0, 1)] * len(plan[3]), [(0, 1)] * len(plan[4]))
+
+
+def some_plan(dice, sizes, gains):
+    """A plan by the dice, with at most so many places, stuffs, ties, turners, wells and wishes."""
+    places = tuple("abcdef"[:1 + dice.roll(sizes[0])])
+    stuffs = tuple("abcd"[:1 + dice.roll(sizes[1])])
+
+    def most(least):
+        return as_pair(Fraction(least + dice.roll(7), 1 + dice.roll(3)))
+
+    def two(things):
+        one = dice.one_of(things)
+        return one, dice.one_of([other for other in things if other != one])
+
+    ties = [two(places) + (most(0), dice.one_of(gains)) for _ in range(dice.roll(sizes[2] + 1)) if len(places) > 1]
+    turners = [(dice.one_of(places),) + two(stuffs) + (most(0), dice.one_of(gains))
+               for _ in range(dice.roll(sizes[3] + 1)) if len(stuffs) > 1]
+    wells = [(dice.one_of(places), dice.one_of(stuffs), most(0)) for _ in range(dice.roll(sizes[4] + 1))]
+    wishes = [(dice.one_of(places), dice.one_of(stuffs), most(1)) for _ in range(dice.roll(sizes[5] + 1))]
+    return (places, stuffs, tuple(ties), tuple(turners), tuple(wells), tuple(wishes))
+
+
+def great_plan(dice):
+    """A plan at the bounds: six places, four stuffs, all else as many and as great as may be."""
+    places, stuffs = tuple("abcdef"), tuple("abcd")
+
+    def most():
+        return as_pair(Fraction(10 ** 9 - dice.roll(1000), 1000 - dice.roll(400)))
+
+    def gain():
+        return as_pair(Fraction(60 - dice.roll(40), 60 - dice.roll(30)))
+
+    ties, turners = [], []
+    for at in range(12):
+        begin, stuff = at % 6, dice.roll(4)
+        end = (begin + 1 + (dice.roll(5) if at > 5 else 0)) % 6
+        ties.append((places[begin], places[end], most(), gain()))
+        turners.append((dice.one_of(places), stuffs[stuff], stuffs[(stuff + 1 + dice.roll(3)) % 4], most(), gain()))
+    wells = [(dice.one_of(places), dice.one_of(stuffs), most()) for _ in range(8)]
+    wishes = [(dice.one_of(places), dice.one_of(stuffs), most()) for _ in range(8)]
+    return (places, stuffs, tuple(ties), tuple(turners), tuple(wells), tuple(wishes))
+
+
+class Drawing:
+    """Draws a sending by the dice that meets a share: for each wish some ways from wells, all by the same share."""
+
+    def __init__(self, dice, plan):
+        self.dice, self.plan = dice, plan
+        self.arcs = [((begin, stuff), (end, stuff), as_fraction(gain), ("tie", number), ("go", number, at))
+                     for number, (begin, end, most, gain) in enumerate(plan[2]) for at, stuff in enumerate(plan[1])]
+        self.arcs += [((place, stuff), (place, other), as_fraction(gain), ("turner", number), ("turn", number))
+                      for number, (place, stuff, other, most, gain) in enumerate(plan[3])]
+        self.rooms = {("tie", number): as_fraction(tie[2]) for number, tie in enumerate(plan[2])}
+        self.rooms.update({("turner", number): as_fraction(turner[3]) for number, turner in enumerate(plan[3])})
+        self.rooms.update({("well", number): as_fraction(well[2]) for number, well in enumerate(plan[4])})
+
+    def way_to(self, spot):
+        """Arcs to a spot from one with a well, and the well; None where it runs into spots that nothing leads to."""
+        way, seen = [], [spot]
+        while True:
+            wells = [number for number, well in enumerate(self.plan[4]) if well[:2] == seen[-1]]
+            if wells and self.dice.roll(2):
+                return way[::-1], self.dice.one_of(wells)
+            arcs = [arc for arc in self.arcs if arc[1] == seen[-1] and arc[0] not in seen]
+            if not arcs:
+                return (way[::-1], self.dice.one_of(wells)) if wells else None
+            way.append(self.dice.one_of(arcs))
+            seen.append(way[-1][0])
+
+    def push_to(self, spot, goes):
+        """Sends some more to a spot, adds it to goes, and tells how much comes."""
+        drawn = self.way_to(spot)
+        if drawn is None:
+            return Fraction(0)
+        way, well = drawn
+        shares, much = [(("well", well), ("draw", well), Fraction(1))], Fraction(1)
+        for begin, end, gain, room, name in way:
+            shares.append((room, name, much))
+            much *= gain
+        begins = min(self.rooms[room] / share for room, name, share in shares) * Fraction(1 + self.dice.roll(3), 3)
+        for room, name, share in shares:
+            self.rooms[room] -= begins * share
+            goes[name] = goes.get(name, Fraction(0)) + begins * share
+        return begins * much
+
+    def draw(self, turns):
+        """A pair (share, sending)."""
+        wishes = {spot: amount for spot, amount in wished(self.plan).items() if amount > 0}
+        goes = {spot: {} for spot in wishes}
+        comes = {spot: Fraction(0) for spot in wishes}
+        for _ in range(turns if wishes else 0):
+            spot = self.dice.one_of(sorted(wishes))
+            comes[spot] += self.push_to(spot, goes[spot])
+        share = min([comes[spot] / wishes[spot] for spot in wishes] + [Fraction(1)])
+        total = {}
+        for spot in wishes:
+            by = share * wishes[spot] / comes[spot] if comes[spot] else Fraction(0)
+            for name, much in goes[spot].items():
+                total[name] = total.get(name, Fraction(0)) + much * by
+
+        def told(*name):
+            return as_pair(total.get(name, Fraction(0)))
+
+        plan = self.plan
+        return as_pair(share), (
+            [[told("go", number, at) for at in range(len(plan[1]))] for number in range(len(plan[2]))],
+            [told("turn", number) for number in range(len(plan[3]))],
+            [told("draw", number) for number in range(len(plan[4]))])

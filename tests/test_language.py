@@ -127,6 +127,27 @@ class Language(unittest.TestCase):
         for name, node in self.nodes(ast.Attribute):
             self.assertIn(node.attr, METHODS | own | given | {"__init__"}, name)
 
+    def test_methods_and_values(self):
+        methods = {part.name for name, node in self.nodes(ast.ClassDef) for part in node.body
+                   if isinstance(part, ast.FunctionDef)}
+        given = {node.attr for name, node in self.nodes(ast.Attribute) if isinstance(node.ctx, ast.Store)}
+        self.assertEqual(methods & given, set())
+        pythons = {word for kind in (str, int, list, tuple, dict, set, bytes) for word in dir(kind)}
+        for word in (methods | given) - {"__init__"}:
+            self.assertNotIn(word, pythons)
+
+    def test_tops_are_bound_once(self):
+        for name, tree in self.trees.items():
+            bound = []
+            for row in tree.body:
+                if isinstance(row, ast.ImportFrom):
+                    bound += [alias.name for alias in row.names]
+                elif isinstance(row, ast.Assign):
+                    bound += [target.id for target in row.targets]
+                elif not isinstance(row, ast.Expr):
+                    bound.append(row.name)
+            self.assertEqual(len(set(bound)), len(bound), name)
+
     def test_is(self):
         for name, node in self.nodes(ast.Compare):
             for sign, side in zip(node.ops, node.comparators):
