@@ -96,3 +96,8 @@ def least(parts):
         if compared(part, best) < 0:
             best = part
     return best
+
+
+def from_nought(part):
+    """A fraction, or 0 where it is below."""
+    return greatest([(0, 1), part])

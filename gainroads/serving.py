@@ -1,6 +1,6 @@
 """The greatest share of a plan's wishes that can be met, and the worths that show that no greater one can."""
 
-from gainroads.fractions import compared, greatest, is_fraction, sum_of, taken, times
+from gainroads.fractions import compared, from_nought, greatest, is_fraction, sum_of, taken, times
 from gainroads.plans import counts_up, wished_at
 from gainroads.simplex import Table, amounts_of, climb, row_worths
 
@@ -77,11 +77,6 @@ def are_plan_worths(plan, thing):
     if not all([isinstance(worths, list) and len(worths) == len(plan[1]) for worths in thing]):
         return False
     return all([is_fraction(worth) for worths in thing for worth in worths])
-
-
-def from_nought(part):
-    """A fraction, or 0 where it is below."""
-    return greatest([(0, 1), part])
 
 
 def tie_toll(tie, begins, ends):

@@ -537,6 +537,7 @@ class Drawing:
         self.rooms = {("tie", number): as_fraction(tie[2]) for number, tie in enumerate(plan[2])}
         self.rooms.update({("turner", number): as_fraction(turner[3]) for number, turner in enumerate(plan[3])})
         self.rooms.update({("well", number): as_fraction(well[2]) for number, well in enumerate(plan[4])})
+        self.wishes = {spot: amount for spot, amount in wished(plan).items() if amount > 0}
 
     def way_to(self, spot):
         """Arcs to a spot from one with a well, and the well; None where it runs into spots that nothing leads to."""
@@ -561,26 +562,31 @@ class Drawing:
         for begin, end, gain, room, name in way:
             shares.append((room, name, much))
             much *= gain
-        begins = min(self.rooms[room] / share for room, name, share in shares) * Fraction(1 + self.dice.roll(3), 3)
+        begins = min(self.rooms[room] / share for room, name, share in shares if share)
+        begins *= Fraction(1 + self.dice.roll(3), 3)
         for room, name, share in shares:
             self.rooms[room] -= begins * share
             goes[name] = goes.get(name, Fraction(0)) + begins * share
         return begins * much
 
-    def draw(self, turns):
-        """A pair (share, sending)."""
-        wishes = {spot: amount for spot, amount in wished(self.plan).items() if amount > 0}
-        goes = {spot: {} for spot in wishes}
-        comes = {spot: Fraction(0) for spot in wishes}
-        for _ in range(turns if wishes else 0):
-            spot = self.dice.one_of(sorted(wishes))
+    def drawn(self, turns):
+        """A pair (share, total): a dict from names to what goes there, as Fractions."""
+        goes = {spot: {} for spot in self.wishes}
+        comes = {spot: Fraction(0) for spot in self.wishes}
+        for _ in range(turns if self.wishes else 0):
+            spot = self.dice.one_of(sorted(self.wishes))
             comes[spot] += self.push_to(spot, goes[spot])
-        share = min([comes[spot] / wishes[spot] for spot in wishes] + [Fraction(1)])
+        share = min([comes[spot] / self.wishes[spot] for spot in self.wishes] + [Fraction(1)])
         total = {}
-        for spot in wishes:
-            by = share * wishes[spot] / comes[spot] if comes[spot] else Fraction(0)
+        for spot in self.wishes:
+            by = share * self.wishes[spot] / comes[spot] if comes[spot] else Fraction(0)
             for name, much in goes[spot].items():
                 total[name] = total.get(name, Fraction(0)) + much * by
+        return share, total
+
+    def draw(self, turns):
+        """A pair (share, sending)."""
+        share, total = self.drawn(turns)
 
         def told(*name):
             return as_pair(total.get(name, Fraction(0)))
@@ -590,3 +596,207 @@ class Drawing:
             [[told("go", number, at) for at in range(len(plan[1]))] for number in range(len(plan[2]))],
             [told("turn", number) for number in range(len(plan[3]))],
             [told("draw", number) for number in range(len(plan[4]))])
+
+
+# Days and books once more, by Fractions.
+
+def day_ok(thing):
+    if type(thing) is not tuple or len(thing) != 6 or not names_ok(thing[0]):
+        return False
+    if type(thing[1]) is not int or thing[1] < 1:
+        return False
+
+    def place(part):
+        return type(part) is str and part in thing[0]
+
+    def hour(part):
+        return type(part) is int and 0 <= part < thing[1]
+
+    def late(part):
+        return type(part) is int and part >= 0
+
+    def opens(part):
+        return type(part) is tuple and all(hour(some) for some in part) and list(part) == sorted(set(part))
+
+    def keep(part):
+        return fraction_ok(part) and 0 <= as_fraction(part) <= 1
+
+    forms = ((place, place, most_ok, gain_ok, most_ok, late, opens), (place, most_ok, keep),
+             (place, hour, most_ok, most_ok), (place, hour, gain_ok))
+    for parts, form in zip(thing[2:], forms):
+        if type(parts) is not tuple or not all(parts_ok(part, form) for part in parts):
+            return False
+    spots = [store[0] for store in thing[3]]
+    return all(tie[0] != tie[1] for tie in thing[2]) and all(spots.count(spot) == 1 for spot in spots)
+
+
+def hourly_ok(day, thing, many):
+    return (type(thing) is list and len(thing) == many
+            and all(type(row) is list and len(row) == day[1] and all(most_ok(much) for much in row) for row in thing))
+
+
+def book_ok(day, thing):
+    if type(thing) is not tuple or len(thing) != 3 or type(thing[2]) is not list or len(thing[2]) != len(day[4]):
+        return False
+    if not hourly_ok(day, thing[0], len(day[2])) or not hourly_ok(day, thing[1], len(day[3])):
+        return False
+    for tie, row in zip(day[2], thing[0]):
+        for hour, much in enumerate(row):
+            open_then = any(hour == some for some in tie[6]) and hour + tie[5] <= day[1] - 1
+            if as_fraction(much) > (as_fraction(tie[2]) if open_then else 0):
+                return False
+    for store, row in zip(day[3], thing[1]):
+        if any(as_fraction(much) > as_fraction(store[1]) for much in row):
+            return False
+    return all(most_ok(much) and as_fraction(much) <= as_fraction(well[2]) for well, much in zip(day[4], thing[2]))
+
+
+def hour_sums(day, book, share):
+    """A dict from (place, hour) to what comes less what goes and is wished."""
+    total = {(place, hour): Fraction(0) for place in day[0] for hour in range(day[1])}
+    for (begin, end, most, gain, price, late, opens), row in zip(day[2], book[0]):
+        for hour, much in enumerate(row):
+            total[begin, hour] -= as_fraction(much)
+            if (end, hour + late) in total:
+                total[end, hour + late] += as_fraction(much) * as_fraction(gain)
+    for (place, most, keep), row in zip(day[3], book[1]):
+        for hour, much in enumerate(row):
+            total[place, hour] -= as_fraction(much)
+            if (place, hour + 1) in total:
+                total[place, hour + 1] += as_fraction(much) * as_fraction(keep)
+    for (place, hour, most, price), much in zip(day[4], book[2]):
+        total[place, hour] += as_fraction(much)
+    for place, hour, amount in day[5]:
+        total[place, hour] -= as_fraction(share) * as_fraction(amount)
+    return total
+
+
+def adds_ok(day, book, share):
+    return book_ok(day, book) and min(hour_sums(day, book, share).values()) >= 0
+
+
+def paid(day, book):
+    total = Fraction(0)
+    for tie, row in zip(day[2], book[0]):
+        for much in row:
+            total += as_fraction(tie[4]) * as_fraction(much)
+    for well, much in zip(day[4], book[2]):
+        total += as_fraction(well[3]) * as_fraction(much)
+    return total
+
+
+def day_noughts(day):
+    return ([[(0, 1)] * day[1] for _ in day[2]], [[(0, 1)] * day[1] for _ in day[3]], [(0, 1)] * len(day[4]))
+
+
+def copied(thing):
+    """A copy of a thing, its lists anew."""
+    return type(thing)(copied(part) for part in thing) if isinstance(thing, (list, tuple)) else thing
+
+
+def put(thing, path, part):
+    """A copy with another part at a path."""
+    if not path:
+        return part
+    return type(thing)(put(some, path[1:], part) if at == path[0] else copied(some) for at, some in enumerate(thing))
+
+
+def some_day(dice, sizes, gains):
+    """A day by the dice, with at most so many places, hours, ties, stores, wells and wishes."""
+    places = tuple("edcba"[:1 + dice.roll(sizes[0])])
+    hours = 1 + dice.roll(sizes[1])
+
+    def most(least):
+        return as_pair(Fraction(least + dice.roll(7), 1 + dice.roll(3)))
+
+    ties = []
+    for _ in range(dice.roll(sizes[2] + 1) if len(places) > 1 else 0):
+        begin = dice.one_of(places)
+        end = dice.one_of([place for place in places if place != begin])
+        opens = tuple(hour for hour in range(hours) if dice.roll(5))
+        ties.append((begin, end, most(0), dice.one_of(gains), most(0), dice.one_of((0, 0, 1, 1, 2, 3, 9)), opens))
+    stores = [(place, most(0), dice.one_of(((0, 1), (1, 1), (1, 2), (999, 1000)))) for place in places if dice.roll(2)]
+    wells = [(dice.one_of(places), dice.roll(hours), most(0), most(0)) for _ in range(dice.roll(sizes[4] + 1))]
+    wishes = [(dice.one_of(places), dice.roll(hours), as_pair(Fraction(1 + dice.roll(5), 1 + dice.roll(9))))
+              for _ in range(dice.roll(sizes[5] + 1))]
+    return (places, hours, tuple(ties), tuple(stores[:sizes[3]]), tuple(wells), tuple(wishes))
+
+
+def great_day(dice, small=1):
+    """A day at the bounds: five places, eight hours, all else as many and as great as may be, wishes smaller."""
+    places = tuple("abcde")
+
+    def most():
+        return as_pair(Fraction(10 ** 9 - dice.roll(1000), 1000 - dice.roll(400)))
+
+    def gain():
+        return as_pair(Fraction(60 - dice.roll(40), 60 - dice.roll(30)))
+
+    ties = []
+    for at in range(8):
+        end = places[(at + 1 + (dice.roll(4) if at > 4 else 0)) % 5]
+        opens = tuple(hour for hour in range(8) if dice.roll(5))
+        ties.append((places[at % 5], end, most(), gain(), most(), dice.roll(3), opens))
+    stores = [(place, most(), as_pair(Fraction(dice.roll(1001), 1000))) for place in places[1:]]
+    # Early wells and late wishes, so that some can be met.
+    wells = [(places[at % 5], dice.roll(3), most(), most()) for at in range(10)]
+    wishes = [(dice.one_of(places), 3 + dice.roll(5), as_pair(Fraction(10 ** 9 // small - dice.roll(99), 1 + at * 111)))
+              for at in range(10)]
+    return (places, 8, tuple(ties), tuple(stores), tuple(wells), tuple(wishes))
+
+
+class DayDrawing(Drawing):
+    """Draws a book by the dice that adds up by a share, likewise."""
+
+    def __init__(self, dice, day):
+        self.dice, self.plan = dice, day
+        self.arcs, self.rooms = [], {}
+        for number, (begin, end, most, gain, price, late, opens) in enumerate(day[2]):
+            for hour in opens:
+                if hour + late < day[1]:
+                    name = ("sent", number, hour)
+                    self.arcs.append(((begin, hour), (end, hour + late), as_fraction(gain), name, name))
+                    self.rooms[name] = as_fraction(most)
+        for number, (place, most, keep) in enumerate(day[3]):
+            for hour in range(day[1] - 1):
+                name = ("kept", number, hour)
+                self.arcs.append(((place, hour), (place, hour + 1), as_fraction(keep), name, name))
+                self.rooms[name] = as_fraction(most)
+        self.rooms.update({("well", number): as_fraction(well[2]) for number, well in enumerate(day[4])})
+        self.wishes = {}
+        for place, hour, amount in day[5]:
+            self.wishes[place, hour] = self.wishes.get((place, hour), Fraction(0)) + as_fraction(amount)
+
+    def draw(self, turns):
+        """A pair (share, book)."""
+        share, total = self.drawn(turns)
+        day = self.plan
+
+        def told(*name):
+            return as_pair(total.get(name, Fraction(0)))
+
+        return as_pair(share), (
+            [[told("sent", number, hour) for hour in range(day[1])] for number in range(len(day[2]))],
+            [[told("kept", number, hour) for hour in range(day[1])] for number in range(len(day[3]))],
+            [told("draw", number) for number in range(len(day[4]))])
+
+
+def day_rows(day):
+    """The names of a book's amounts with their mosts, and for each place and hour its row: what comes less what goes
+    for each of an amount."""
+    names = [(("sent", number, hour), as_fraction(tie[2])) for number, tie in enumerate(day[2])
+             for hour in range(day[1]) if hour in tie[6] and hour + tie[5] < day[1]]
+    names += [(("kept", number, hour), as_fraction(store[1])) for number, store in enumerate(day[3])
+              for hour in range(day[1])]
+    names += [(("drawn", number), as_fraction(well[2])) for number, well in enumerate(day[4])]
+    bare = day[:5] + ((),)
+    columns = []
+    for name, most in names:
+        book = day_noughts(day)
+        spot = book[("sent", "kept", "drawn").index(name[0])]
+        for at in name[1:-1]:
+            spot = spot[at]
+        spot[name[-1]] = (1, 1)
+        columns.append(hour_sums(bare, book, (0, 1)))
+    spots = [(place, hour) for place in day[0] for hour in range(day[1])]
+    return names, [[column[spot] for column in columns] for spot in spots]

@@ -85,7 +85,9 @@ class Language(unittest.TestCase):
         for name, node in self.nodes(ast.ImportFrom):
             package, _, file = node.module.partition(".")
             self.assertEqual((package, node.level), ("gainroads", 0), name)
-            defined = [row.name for row in self.trees[file + ".py"].body if hasattr(row, "name")]
+            tops = self.trees[file + ".py"].body
+            defined = [row.name for row in tops if hasattr(row, "name")]
+            defined += [row.targets[0].id for row in tops if isinstance(row, ast.Assign)]
             for alias in node.names:
                 self.assertIn(alias.name, defined, name)
                 self.assertIsNone(alias.asname, name)

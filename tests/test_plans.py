@@ -5,7 +5,7 @@ from fractions import Fraction
 
 from gainroads.plans import count_at, counts_up, is_plan, is_sending
 from helpers import (JUNK, Dice, Drawing, as_fraction, as_pair, check_own, counted, counts_ok, frozen, great_plan,
-                     plan_noughts, plan_ok, sending_ok, some_plan, variants, wished)
+                     plan_noughts, plan_ok, put, sending_ok, some_plan, variants, wished)
 
 GAINS = [(1, 2), (1, 1), (2, 1), (3, 4), (60, 59), (4, 3)]
 LONE = (("a",), ("a",), (), (), (), ())
@@ -21,14 +21,6 @@ ORE = (("pit", "mill", "town"), ("ore", "iron", "water"), (
     ("town", "iron", (2, 1)), ("town", "water", (1, 1)), ("town", "iron", (1, 2)),
 ))
 SENDING = ([[(3, 1), (0, 1), (0, 1)], [(0, 1), (3, 2), (3, 5)]], [(3, 1)], [(3, 1), (3, 5)])
-
-
-def put(thing, path, part):
-    """A copy with another part at a path."""
-    if not path:
-        return part
-    box = type(thing)
-    return box(put(some, path[1:], part) if at == path[0] else some for at, some in enumerate(thing))
 
 
 class IsPlan(unittest.TestCase):
