@@ -800,3 +800,43 @@ def day_rows(day):
         columns.append(hour_sums(bare, book, (0, 1)))
     spots = [(place, hour) for place in day[0] for hour in range(day[1])]
     return names, [[column[spot] for column in columns] for spot in spots]
+
+
+def lifted(day, worths, priced):
+    """By how much ties, stores and wells let a day's worths rise, times their mosts."""
+    at = {(place, hour): as_fraction(worth) for place, row in zip(day[0], worths) for hour, worth in enumerate(row)}
+    total = Fraction(0)
+    by = 1 if priced else 0
+    for begin, end, most, gain, price, late, opens in day[2]:
+        for hour in opens:
+            if hour + late <= day[1] - 1:
+                lift = as_fraction(gain) * at[end, hour + late] - at[begin, hour] - as_fraction(price) * by
+                total += as_fraction(most) * max(lift, 0)
+    for place, most, keep in day[3]:
+        for hour in range(day[1]):
+            lift = as_fraction(keep) * at.get((place, hour + 1), 0) - at[place, hour]
+            total += as_fraction(most) * max(lift, 0)
+    for place, hour, most, price in day[4]:
+        total += as_fraction(most) * max(at[place, hour] - as_fraction(price) * by, 0)
+    return total
+
+
+def wishes_worth(day, worths):
+    return sum((as_fraction(amount) * as_fraction(worths[day[0].index(place)][hour])
+                for place, hour, amount in day[5]), Fraction(0))
+
+
+def day_worths_ok(day, thing):
+    return (type(thing) is list and len(thing) == len(day[0])
+            and all(type(row) is list and len(row) == day[1] and all(most_ok(worth) for worth in row) for row in thing))
+
+
+def share_shown(day, share, book, worths):
+    return (fraction_ok(share) and 0 <= as_fraction(share) <= 1 and adds_ok(day, book, share)
+            and day_worths_ok(day, worths)
+            and lifted(day, worths, False) + max(1 - wishes_worth(day, worths), 0) == as_fraction(share))
+
+
+def cheapest_day_shown(day, book, worths):
+    return (adds_ok(day, book, (1, 1)) and day_worths_ok(day, worths)
+            and wishes_worth(day, worths) - lifted(day, worths, True) == paid(day, book))

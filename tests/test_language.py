@@ -138,6 +138,14 @@ class Language(unittest.TestCase):
         for word in (methods | given) - {"__init__"}:
             self.assertNotIn(word, pythons)
 
+    def test_walked_at_once(self):
+        for name, node in self.nodes(ast.Assign):
+            call = node.value
+            if isinstance(call, ast.Call) and isinstance(call.func, ast.Name):
+                self.assertNotIn(call.func.id, ("range", "zip", "enumerate", "reversed"), (name, node.lineno))
+            if isinstance(call, ast.Call) and isinstance(call.func, ast.Attribute):
+                self.assertNotIn(call.func.attr, ("items", "keys", "values"), (name, node.lineno))
+
     def test_tops_are_bound_once(self):
         for name, tree in self.trees.items():
             bound = []
